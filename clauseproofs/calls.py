@@ -8,9 +8,21 @@ BOUNDS = 4
 JOINED = 5
 WIDER = 6
 CHAIN = 7
+DROP = 8
+MARK = 9
+BACK = 10
+DECIDE = 11
+PROVE = 12
+SHOW = 13
+RESTS = 14
+CAME = 15
+JUDGE = 16
 
 # By a call's number: how many whole numbers it has, then how many rows.
-FORMS = ((1, 0), (0, 0), (3, 0), (0, 1), (0, 1), (3, 1), (1, 1), (0, 2), (1, 0))
+FORMS = (
+    (1, 0), (0, 0), (3, 0), (0, 1), (0, 1), (3, 1), (1, 1), (0, 2), (1, 0),
+    (0, 0), (0, 0), (0, 0), (0, 0), (1, 0), (1, 0), (1, 0), (0, 1), (0, 1),
+)
 
 
 class Call:

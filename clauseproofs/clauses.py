@@ -18,5 +18,16 @@ def without(clause, literal):
     return [other for other in clause if other != literal]
 
 
+def put_together(first, second, atom):
+    """All literals of both, but the atom of the first and its opposite of the second."""
+    # A loose clause keeps the opposite of what is taken out of it; else what is put together would not hold.
+    return clause_of(without(first, atom) + without(second, -atom))
+
+
 def is_loose(clause):
     return any([-literal in clause for literal in clause])
+
+
+def is_broken(clause, so):
+    """Whether none of its literals can be so any more, by the literals that are so."""
+    return all([-literal in so for literal in clause])

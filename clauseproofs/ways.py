@@ -1,6 +1,6 @@
 """Lines, and whether one is shown in the way that it tells."""
 
-from clauseproofs.clauses import clause_of, opposites, without
+from clauseproofs.clauses import opposites, put_together
 from clauseproofs.differences import can_be_together
 
 AS_CLAIM = 0
@@ -29,19 +29,20 @@ def shown_by_differences(clause, atoms, u):
 
 
 def shown_by_joining(clause, first, second, atom):
-    if atom not in first or -atom not in second:
+    if first is None or second is None or atom not in first or -atom not in second:
         return False
-    # A loose line keeps the opposite of what is taken out of it; else what is joined would not hold.
-    return clause == clause_of(without(first, atom) + without(second, -atom))
+    return clause == put_together(first, second, atom)
 
 
 def shown_by_widening(clause, source):
-    return all([literal in clause for literal in source])
+    return source is not None and all([literal in clause for literal in source])
 
 
 def shown_by_chain(clause, sources):
     not_so = list(clause)
     for source in sources:
+        if source is None:
+            return False
         left = [literal for literal in source if literal not in not_so]
         if len(left) == 0:
             return True
@@ -51,8 +52,9 @@ def shown_by_chain(clause, sources):
     return False
 
 
-def is_shown(line, sources, atoms, u):
-    """Whether a line that is no claim is shown so; sources are the clauses of the lines that it names, in order."""
+def is_shown(line, lines, atoms, u):
+    """Whether a line that is no claim is shown so by the lines that there are; one that it names need not be there."""
+    sources = [lines[source].clause if source in lines else None for source in line.sources()]
     if line.way == BY_BOUNDS:
         return shown_by_differences(line.clause, atoms, u)
     if line.way == BY_JOINING:
