@@ -67,7 +67,7 @@ def one_place_more(choices, count):
 
 def reason_of(atoms, u, literals):
     """The fewest of them, in their order, that can't be so together by differences; None if all can be."""
-    # Seen ahead, for to go through all choices in vain would take long.
+    # Asked first, as it is quick: most often they can be, and no choice need be gone through.
     if can_be_together(atoms, u, literals):
         return None
     bounding = [literal for literal in literals if atoms[abs(literal) - 1] != QUESTION]

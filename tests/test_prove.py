@@ -208,6 +208,9 @@ class ThreeHundredLines(unittest.TestCase):
 
     def test_a_world_is_told_first(self):
         self.assertEqual(last_told(*self.filled(300, claim(1), claim(1)), prove()), [-8])
+        # On the way to the world a line is found that would be the 301st.
+        calls = [yes(), yes(), claim(1, 2), claim(1, -2)] + [wider(1, 1, 2)] * 298
+        self.assertEqual(told(*calls, prove(), wider(1, 1, 2), decide())[-3:], [[-8], [-5], [1, 2, 1, 0, 3, 0, 0, 0]])
 
 
 class MoreThanThreeHundredLines(unittest.TestCase):
